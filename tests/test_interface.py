@@ -1,0 +1,122 @@
+"""The names of the interface: where they are defined, and which parameters they take."""
+
+import importlib
+import inspect
+import unittest
+
+FUNCTIONS = {
+    "kinds": [
+        "kind_named(name)", "plain_value(kind, word)", "merged_value(kind, left, right)", "alike(kind, left, right)",
+        "rule_words(rule)", "broken_rule(kind, other)", "under(kind, other)", "repeated_letter(word)",
+    ],
+    "witnesses": ["witness(kind, left, right)", "read_fold(table, reading, word)"],
+    "strands": [
+        "is_strand(thing)", "members(strand)", "last_member(strand)", "member_at(strand, place, /)",
+        "place_in(strand, index, /)", "strand_turned(strand)", "strand_each(strand, k, i)",
+        "strand_cut(strand, *, begin=0, end=None)",
+    ],
+    "strandrows": [
+        "strand_row(strands)", "row_size(row)", "row_word(row)", "row_index(row, place, /)",
+        "row_places(row, index, /)", "row_turned(row)", "row_each(row, k, i)", "row_cut(row, *, begin=0, end=None)",
+    ],
+    "feedtexts": ["tokens(text)", "read_parts(text)", "write_parts(parts)"],
+    "lines": ["numbers_of(feed)", "strand_lines(feed, length)"],
+    "cells": [
+        "together(*feeds)", "base_of(*feeds)", "told_of(*feeds)", "checked_told(*feeds)", "ends_at(length, *feeds)",
+        "cells_at(length, *feeds)", "holders(row, index, /)", "places_of(feed, length, index)",
+    ],
+    "copies": [
+        "copies_of(feed, length, index)", "counts_at(feed, length)", "copy_numbers(feed, length)", "lost(feed)",
+        "doubled(feed)", "extremes(feed)", "rearranges(feed)",
+    ],
+    "verdicts": [
+        "alike_at(kind, p, q, length)", "parted(kind, p, q)", "alike_forever(kind, p, q)",
+        "differing(kind, p, q, *, below)",
+    ],
+    "leastkinds": ["kinds_alike(p, q)", "widest_kinds(p, q)"],
+    "nets": ["through(net, width, letters)"],
+}
+
+PLAIN = ["plain(self, word)"]
+
+METHODS = {
+    "kinds.Kind": PLAIN + ["merged(self, left, right)"],
+    "kinds.BagKind": PLAIN, "kinds.SetKind": PLAIN, "kinds.HeadsKind": PLAIN, "kinds.FirstKind": PLAIN,
+    "kinds.TailsKind": PLAIN, "kinds.LastKind": PLAIN, "kinds.EndsKind": PLAIN,
+    "tables.Table": ["__init__(self, rows)", "rows(self)", "__call__(self, one, other)", "fold(self, word)",
+                     "fault(self, kind)"],
+    "feeds.Feed": [
+        "__init__(self, parts)", "strands_at(self, length)", "size_at(self, length)", "word_at(self, length)",
+        "index_at(self, length, place)", "stages(self, length)", "run(self, things)", "__call__(self, things)",
+        "__rshift__(self, other)", "__add__(self, other)", "__invert__(self)", "__len__(self)", "__iter__(self)",
+        "__str__(self)",
+    ],
+    "lines.Numbers": ["__init__(self, *, divisor=1, modulus=1, spread=0, stride=1, reach=1)", "fields(self)",
+                      "__or__(self, other)"],
+    "lines.StrandLine": ["strand_at(self, turn)", "place_at(self, turn)"],
+    "nets.Net": [
+        "__init__(self, width, merges=())", "__contains__(self, node)", "pairs(self)", "parts_of(self, node)",
+        "steps(self)", "lengths(self)", "heights(self)", "words(self)", "plain_values(self, kind)",
+        "word_length(self, node)", "height(self, node)", "word(self, node)", "plain_of(self, kind, node)",
+        "tops(self)", "results(self, table, row)", "with_merge(self, one, other)", "moved(self, node, *, by)",
+        "__add__(self, other)",
+    ],
+}
+
+PROPERTIES = {
+    "tables.Table": ["order"], "feeds.Feed": ["parts", "text", "leaves"], "lines.Numbers": ["settled"],
+    "nets.Net": ["size", "merge_count", "tallest"],
+}
+
+GENERATORS = ["feeds.Feed.stages", "nets.Net.steps", "verdicts.differing"]
+
+
+def module_named(name):
+    return importlib.import_module(f"unseenfolds.{name}")
+
+
+def class_named(path):
+    module, name = path.split(".")
+    return getattr(module_named(module), name)
+
+
+class InterfaceTest(unittest.TestCase):
+    def test_functions(self):
+        for name, functions in FUNCTIONS.items():
+            for told in functions:
+                function = getattr(module_named(name), told.split("(")[0])
+                self.assertEqual(function.__module__, f"unseenfolds.{name}")
+                self.assertEqual(function.__name__ + str(inspect.signature(function)), told)
+
+    def test_methods_stand_in_their_class(self):
+        for path, methods in METHODS.items():
+            made = class_named(path)
+            self.assertEqual(made.__module__, f"unseenfolds.{path.split('.')[0]}")
+            for told in methods:
+                name = told.split("(")[0]
+                self.assertIn(name, vars(made), path)
+                self.assertEqual(name + str(inspect.signature(vars(made)[name])), told, path)
+
+    def test_properties(self):
+        for path, names in PROPERTIES.items():
+            for name in names:
+                self.assertIsInstance(vars(class_named(path))[name], property)
+
+    def test_class_and_static_methods(self):
+        made = class_named("feeds.Feed")
+        self.assertIsInstance(vars(made)["read"], classmethod)
+        self.assertEqual(str(inspect.signature(made.read)), "(text)")
+        self.assertIsInstance(vars(made)["same"], staticmethod)
+        self.assertEqual(str(inspect.signature(made.same)), "()")
+
+    def test_generators(self):
+        for path in GENERATORS:
+            module, *names = path.split(".")
+            thing = module_named(module)
+            for name in names:
+                thing = getattr(thing, name)
+            self.assertTrue(inspect.isgeneratorfunction(thing), path)
+
+
+if __name__ == "__main__":
+    unittest.main()
