@@ -115,6 +115,9 @@ PAIRS = (
     ("both (each 3 0) (both (each 3 1) (each 3 2))", "both (each 3 0) (both (each 3 2) (each 3 1))"),
     ("both (rest 1; each 2 0) (each 2 0)", "both (each 2 1) (each 2 0)"),
     ("both (turn; each 2 0) (same)", "both (turn) (same)"),
+    ("both (both (front 1) (last 1)) (turn)", "both (both (front 1) (last 1)) (same)"),
+    ("both (each 2 0; turn) (both (front 2) (both (last 2) (turn)))",
+     "both (each 2 0; turn) (both (front 2) (both (last 2) (same)))"),
 )
 
 

@@ -84,9 +84,16 @@ class KindClassesTest(FoldCase):
             self.assertEqual(made().merged([2, 0], (2, 1)), plain_value(name, (2, 0, 2, 1)))
 
 
+class EqualToAll:
+    """A thing that is equal to each name, and still is none."""
+
+    def __eq__(self, other):
+        return True
+
+
 class BadKindTest(FoldCase):
     def test_anything_else_is_no_kind(self):
-        for name in NOT_KINDS:
+        for name in NOT_KINDS + (EqualToAll(),):
             for call in (
                 lambda: kind_named(name), lambda: plain_value(name, ()), lambda: merged_value(name, (), ()),
                 lambda: alike(name, (), ()), lambda: broken_rule(name, "list"), lambda: broken_rule("list", name),

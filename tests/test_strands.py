@@ -21,7 +21,10 @@ class IsStrandTest(FoldCase):
             self.assertIs(is_strand(strand), True, strand)
 
     def test_wrong_numbers(self):
-        for strand in ((0, 0, 1), (0, 1, 0), (0, 1, -1), (-1, 1, 5), (-1, 1, 1), (6, -3, 4), (10 ** 60, -1, 10 ** 60 + 2)):
+        for strand in (
+            (0, 0, 1), (0, 1, 0), (5, 1, 0), (0, -1, 0), (0, 1, -1), (-1, 1, 5), (-1, 1, 1), (6, -3, 4),
+            (10 ** 60, -1, 10 ** 60 + 2),
+        ):
             self.assertIs(is_strand(strand), False, strand)
 
     def test_wrong_forms(self):
@@ -66,8 +69,10 @@ class StrandTest(FoldCase):
             for i in range(8):
                 told = strand_each(strand, k, i)
                 self.assertEqual([] if told is None else members(told), members(strand)[i::k])
+                self.assertEqual(told is None, i >= strand[2])
                 if told is not None:
                     self.assertEqual(told[1], strand[1] * k)
+                    self.assertTrue(is_strand(told))
 
     def test_cut(self):
         for strand in small_strands():

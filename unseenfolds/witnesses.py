@@ -36,7 +36,7 @@ def told_apart(kind, one, other):
         return orders_apart(HEADS_ROWS, kind_named(kind).plain(one), kind_named(kind).plain(other))
     if kind == "tails":
         return orders_apart(TAILS_ROWS, kind_named(kind).plain(one)[::-1], kind_named(kind).plain(other)[::-1])
-    # What is left are first, last and ends.
+    # Words that are not alike under ends, but begin with one letter, end with different ones.
     if kind == "last" or one[0] == other[0]:
         return (RIGHT_ROWS, {one[-1]: 1})
     return (LEFT_ROWS, {one[0]: 1})
