@@ -1,10 +1,13 @@
-"""What several test files need: a check of errors, and small feeds with a plain way to run them."""
+"""What several test files need: a check of errors, small feeds with a plain way to run them, and small nets with
+goals and losses, with a plain search for mendings."""
 
 import itertools
 import unittest
 
 from unseenfolds.cells import told_of
 from unseenfolds.feeds import Feed
+from unseenfolds.kinds import KIND_NAMES, merged_value, plain_value
+from unseenfolds.nets import Net
 
 BIG = 10 ** 59 + 12345
 
@@ -130,3 +133,125 @@ def short_pairs():
     """Returns these pairs, and pairs of small feeds whose own told length is short."""
     feeds = [f for f in small_feeds() if told_of(f) <= 12][::3]
     return feed_pairs() + list(itertools.combinations(feeds, 2))[::5]
+
+
+NOT_NODES = (-1, 10 ** 60, True, False, None, 0.0, 1.5, "0", (0,), [0], {0: 0}, b"0", object())
+
+
+class Draws:
+    """Numbers that look as if they were drawn, the same ones in each run."""
+
+    def __init__(self, seed):
+        self.state = seed
+
+    def below(self, size):
+        self.state = (self.state * 1103515245 + 12345) % 2 ** 31
+        return (self.state >> 8) % size
+
+
+def drawn_net(draws, width, merges):
+    """Returns a net of this width with so many merges."""
+    pairs = [(draws.below(width + j), draws.below(width + j)) for j in range(merges)]
+    return Net(width, pairs)
+
+
+def spread_net(draws, goal, width, merges):
+    """Returns a net whose merges are mostly of neighbours in the goal, so that many nodes are useful."""
+    goal = [letter for letter in goal if letter < width]
+    pairs, words = [], [(item,) for item in range(width)]
+    while len(pairs) < merges:
+        one, other = draws.below(len(words)), draws.below(len(words))
+        near = any(words[one][-1:] + words[other][:1] == tuple(goal[j:j + 2]) for j in range(len(goal)))
+        if near or draws.below(6) == 0:
+            pairs.append((one, other))
+            words.append(words[one] + words[other])
+    return Net(width, pairs)
+
+
+def drawn_cases(many, seed, *, most_merges=5, most_width=4):
+    """Returns so many tuples of a net, a simple goal and a loss; some goals have letters that are no items."""
+    draws, cases = Draws(seed), []
+    for number in range(many):
+        width = 1 + draws.below(most_width)
+        letters = list(range(width + (draws.below(5) == 0)))
+        goal = [letters.pop(draws.below(len(letters))) for _ in range(1 + draws.below(len(letters)))]
+        merges = draws.below(most_merges + 1)
+        net = drawn_net(draws, width, merges) if number % 3 == 0 else spread_net(draws, goal, width, merges)
+        odds = 1 + draws.below(4)
+        loss = [node for node in range(net.size) if draws.below(4) < odds and (node < width or draws.below(2))]
+        cases.append((net, goal, loss if number % 5 else []))
+    return cases
+
+
+def goals_under(kind, goal):
+    """Returns the goal, and under idempotent kinds the goal with letters again."""
+    if kind in ("list", "bag"):
+        return [goal]
+    return [goal, goal + goal[:1], [goal[-1]] + goal]
+
+
+def joined_counts(kind, values, longest):
+    """Returns a dict of the plain values, of so many letters at most, that rows of these plain values have joined.
+
+    Each of them has the least number of such rows. This is point 42, without spans.
+    """
+    counts, fresh, many = {}, [()], 0
+    while fresh:
+        many, later = many + 1, []
+        for old in fresh:
+            for value in values:
+                new = merged_value(kind, old, value)
+                if len(new) <= longest and new not in counts:
+                    counts[new] = many
+                    later.append(new)
+        fresh = later
+    return counts
+
+
+def searched_fewest(kind, net, goal, loss):
+    """Returns the least number of parts of a mending, or None, by a search of all rows."""
+    lost = set(loss)
+    values = {plain_value(kind, word) for node, word in enumerate(net.words()) if node not in lost}
+    whole = plain_value(kind, goal)
+    # Under list and bag nothing that has more letters than the goal is a part of it.
+    longest = len(whole) if kind in ("list", "bag") else net.width + 2
+    return joined_counts(kind, sorted(values), longest).get(whole)
+
+
+def searched_strength(kind, net, goal, loss):
+    """Returns the least size of a blow, and the list of all blows of this size, by a search of all sets."""
+    standing = [node for node in range(net.size) if node not in set(loss)]
+    for many in range(len(standing) + 1):
+        blows = [list(nodes) for nodes in itertools.combinations(standing, many)
+                 if searched_fewest(kind, net, goal, sorted(list(loss) + list(nodes))) is None]
+        if blows:
+            return many, blows
+    raise AssertionError("the set of all standing nodes is a blow")
+
+
+def all_kinds_cases(many, seed, **sizes):
+    """Returns tuples of a kind, a net, a goal and a loss."""
+    return [(kind, net, one, loss) for net, goal, loss in drawn_cases(many, seed, **sizes)
+            for kind in KIND_NAMES for one in goals_under(kind, goal)]
+
+
+def drawn_spans(many, seed):
+    """Returns so many tuples of a list of spans, in any order and with different nodes, and an end."""
+    draws, told = Draws(seed), []
+    for number in range(many):
+        end = 1 + draws.below(6)
+        nodes = list(range(40))
+        spans = []
+        for _ in range(draws.below(13)):
+            begin = draws.below(end)
+            stop = begin + 1 + draws.below(min(end - begin, 3))
+            spans.append((nodes.pop(draws.below(len(nodes))), begin, stop))
+        if number % 2:
+            spans += [(nodes.pop(draws.below(len(nodes))), place, place + 1) for place in range(end)]
+        told.append((spans, end))
+    return told
+
+
+def subsets(things):
+    """Returns all lists of some of the things, the shorter ones first."""
+    return [list(some) for many in range(len(things) + 1) for some in itertools.combinations(things, many)]

@@ -35,9 +35,35 @@ FUNCTIONS = {
     ],
     "leastkinds": ["kinds_alike(p, q)", "widest_kinds(p, q)"],
     "nets": ["through(net, width, letters)"],
+    "nettexts": ["write_net(net)", "read_net(text)"],
+    "unders": [
+        "nodes_under(net, node)", "merges_under(net, node)", "letters_under(net, node)", "shared_node(net, node)",
+        "is_tree(net, node)",
+    ],
+    "packing": ["packed(net, kind)"],
+    "folds": [
+        "ceil_log2(k)", "floor_log2(k)", "fold_letters(kind, goal)", "least_merges(kind, goal)",
+        "least_height(kind, goal)", "halves_over(net, nodes)", "chain_over(net, nodes)", "halves(width, letters)",
+        "chain(width, letters)", "fold_net(kind, goal, width)", "row_net(width, row, *, chained=False)",
+        "feed_net(feed, length, *, chained=False)",
+    ],
+    "goals": ["standing_nodes(net, loss)", "lost_top(net, loss)", "goal_letters(kind, goal)"],
+    "spans": ["span(kind, goal, word)", "is_useful(kind, goal, word)"],
+    "ways": ["distances(spans, end)", "distances_back(spans, end)", "reached(spans, end)"],
+    "covers": [
+        "cover_distances(spans, end)", "cover_distances_back(spans, end)", "uncovered(spans, end)",
+        "cover_points(spans, end)",
+    ],
+    "lacking": [f"{name}(net, kind, goal, *, loss=())" for name in ("mendable", "missing", "wants", "want_table")],
+    "settling": [f"{name}(net, kind, goal, *, loss=())" for name in ("settled", "unsettled")],
+    "blows": ["is_blow(net, kind, goal, nodes, *, loss=())"],
+    "flows": ["disjoint_covers(spans, end)"],
+    "strengths": ["strength_of(net, kind, goal, *, loss=())"],
 }
 
 PLAIN = ["plain(self, word)"]
+
+MADE_OF_REMAINS = "__init__(self, net, kind, goal, *, loss=())"
 
 METHODS = {
     "kinds.Kind": PLAIN + ["merged(self, left, right)"],
@@ -61,12 +87,28 @@ METHODS = {
         "tops(self)", "results(self, table, row)", "with_merge(self, one, other)", "moved(self, node, *, by)",
         "__add__(self, other)",
     ],
+    "spans.Remains": [
+        MADE_OF_REMAINS, "standing(self)", "useful(self)", "fronts(self)", "backs(self)", "whole_nodes(self)",
+        "spans(self)",
+    ],
+    "mending.Mending": [
+        MADE_OF_REMAINS, "__iter__(self)", "letter_sets(self)", "mends(self, row)", "mended(self)", "least_net(self)",
+        "makers(self, other)", "worth(self, node)",
+    ],
+    "flows.Flow": ["__init__(self, spans, end)", "ways(self)", "places(self)", "cut(self)"],
+    "strengths.Strength": [
+        MADE_OF_REMAINS, "blow(self)", "places(self)", "weakest(self)", "mendings(self)", "__call__(self, nodes)",
+        "vital(self)",
+    ],
 }
 
 PROPERTIES = {
     "tables.Table": ["order"], "feeds.Feed": ["parts", "text", "leaves"], "lines.Numbers": ["settled"],
-    "nets.Net": ["size", "merge_count", "tallest"],
+    "nets.Net": ["size", "merge_count", "tallest"], "spans.Remains": ["goal", "spanned"],
+    "mending.Mending": ["fewest"], "strengths.Strength": ["strength"],
 }
+
+BASES = {"mending.Mending": "spans.Remains", "strengths.Strength": "spans.Remains"}
 
 GENERATORS = ["feeds.Feed.stages", "nets.Net.steps", "verdicts.differing"]
 
@@ -101,6 +143,10 @@ class InterfaceTest(unittest.TestCase):
         for path, names in PROPERTIES.items():
             for name in names:
                 self.assertIsInstance(vars(class_named(path))[name], property)
+
+    def test_bases(self):
+        for path, base in BASES.items():
+            self.assertEqual(class_named(path).__bases__, (class_named(base),))
 
     def test_class_and_static_methods(self):
         made = class_named("feeds.Feed")

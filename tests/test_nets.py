@@ -3,15 +3,12 @@
 import itertools
 import unittest
 
-from tests.helpers import FoldCase
+from tests.helpers import NOT_NODES, FoldCase
 from unseenfolds.errors import BadKind, BadLength, BadLetter, BadNet, BadWidth, NoNode, OtherWidth, TooLong
 from unseenfolds.kinds import KIND_NAMES, plain_value
 from unseenfolds.nets import Net, through
 from unseenfolds.tables import Table
 from unseenfolds.witnesses import read_fold, witness
-
-NOT_NODES = (-1, 10 ** 60, True, False, None, 0.0, 1.5, "0", (0,), [0], {0: 0}, b"0", object())
-
 
 def small_nets():
     """Some nets of the widths 1 to 4, shared nodes and both orders of parts among them."""
