@@ -6,6 +6,7 @@ import unittest
 
 from unseenfolds.cells import told_of
 from unseenfolds.feeds import Feed
+from unseenfolds.goals import goal_letters
 from unseenfolds.kinds import KIND_NAMES, merged_value, plain_value
 from unseenfolds.nets import Net
 
@@ -255,3 +256,18 @@ def drawn_spans(many, seed):
 def subsets(things):
     """Returns all lists of some of the things, the shorter ones first."""
     return [list(some) for many in range(len(things) + 1) for some in itertools.combinations(things, many)]
+
+
+def table_by_rule(kind, net, goal, loss):
+    """The letter table, as point 48 says it, by all rows of useful nodes."""
+    t = goal_letters(kind, goal)
+    standing = [node for node in range(net.size) if node not in loss]
+    words = [net.word(node) for node in standing if set(net.word(node)) <= set(t)]
+    sets = sorted({tuple(sorted(set(word))) for word in words if kind == "set" or len(set(word)) == len(word)})
+    table = {(): 0}
+    for many in range(1, len(t) + 1):
+        for row in itertools.combinations(sets, many):
+            joined = sorted(letter for letters in row for letter in letters)
+            if kind == "set" or len(set(joined)) == len(joined):
+                table.setdefault(tuple(sorted(set(joined))), many)
+    return table

@@ -1,11 +1,13 @@
 """Point 51: blows and their errors."""
 
+import itertools
 import unittest
 
 from tests.helpers import NOT_NODES, FoldCase, all_kinds_cases, searched_fewest, subsets
 from unseenfolds.blows import is_blow
 from unseenfolds.errors import BadBlow, BadKind, BadLoss, EmptyWord, NotRuns, NotSimple
 from unseenfolds.kinds import KIND_NAMES
+from unseenfolds.mending import Mending
 from unseenfolds.nets import Net
 from unseenfolds.spans import Remains
 
@@ -20,6 +22,18 @@ class BlowTest(FoldCase):
                 told = searched_fewest(kind, net, goal, sorted(list(loss) + nodes)) is None
                 self.assertIs(is_blow(net, kind, goal, nodes, loss=loss), told)
                 self.assertIs(is_blow(net, kind, tuple(goal), tuple(nodes), loss=tuple(loss)), told)
+
+    def test_a_blow_has_a_node_of_each_mending(self):
+        for kind, net, goal, loss in all_kinds_cases(30, 141, most_merges=3, most_width=3):
+            remains, mending = Remains(net, kind, goal, loss=loss), Mending(net, kind, goal, loss=loss)
+            if kind == "bag" and not remains.spanned:
+                continue
+            # A mending has one of no more parts than the goal has letters, each of them once, within it.
+            rows = [row for many in range(1, len(remains.goal) + 1)
+                    for row in itertools.permutations(remains.useful(), many) if mending.mends(row)]
+            for nodes in subsets(remains.standing()):
+                told = all(set(row) & set(nodes) for row in rows)
+                self.assertIs(is_blow(net, kind, goal, nodes, loss=loss), told)
 
     def test_examples(self):
         net = Net(4, [(0, 1), (2, 3), (4, 5), (1, 2)])

@@ -1,15 +1,13 @@
 """Points 46, 48 and 50: when a goal can be mended, what is missing, wanted items and the want table."""
 
-import itertools
 import unittest
 
-from tests.helpers import FoldCase, all_kinds_cases, searched_fewest, subsets
+from tests.helpers import FoldCase, all_kinds_cases, searched_fewest, subsets, table_by_rule
 from unseenfolds.errors import BadKind, BadLetter, BadLoss, EmptyWord, NotRuns, NotSimple, TooMany
-from unseenfolds.goals import goal_letters
 from unseenfolds.kinds import KIND_NAMES
 from unseenfolds.lacking import mendable, missing, want_table, wants
 from unseenfolds.nets import Net
-from unseenfolds.spans import Remains, is_useful
+from unseenfolds.spans import Remains
 
 CALLS = (mendable, missing, wants, want_table)
 
@@ -36,19 +34,6 @@ def missing_by_rule(kind, net, goal, loss):
     if kind != "last" and not remains.fronts():
         return ("letter", t[0])
     return ("letter", t[-1]) if kind != "first" and not remains.backs() else None
-
-
-def table_by_rule(kind, net, goal, loss):
-    """The letter table, as point 48 says it, by all rows of useful nodes."""
-    standing = [node for node in range(net.size) if node not in loss]
-    sets = sorted({tuple(sorted(set(net.word(v)))) for v in standing if is_useful(kind, goal, net.word(v))})
-    table = {(): 0}
-    for many in range(1, len(goal_letters(kind, goal)) + 1):
-        for row in itertools.combinations(sets, many):
-            joined = sorted(letter for letters in row for letter in letters)
-            if kind == "set" or len(set(joined)) == len(joined):
-                table.setdefault(tuple(sorted(set(joined))), many)
-    return table
 
 
 class MissingTest(FoldCase):
@@ -170,6 +155,12 @@ class WantsTest(FoldCase):
         self.assertEqual(wants(net, "ends", (0, 1, 0), loss=[0, 1, 2]), [0])
         self.assertEqual(wants(net, "ends", (0, 1, 0), loss=[0]), [0])
         self.assertEqual(wants(net, "ends", (0,), loss=[]), [])
+
+    def test_wanted_items_ascend(self):
+        net, goal = Net(20), (17, 8, 1, 16)
+        told = [wants(net, kind, goal, loss=list(range(20))) for kind in KIND_NAMES]
+        self.assertEqual(told, [[1, 8, 16, 17]] * 3 + [[17], [16], [16, 17], [1, 8, 16, 17], [1, 8, 16, 17]])
+        self.assertEqual(wants(net, "ends", (8, 1), loss=[1, 8]), [1, 8])
 
     def test_lists_handed_out_are_new(self):
         net = Net(2, [(0, 1)])

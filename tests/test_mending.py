@@ -1,10 +1,11 @@
 """Points 42 and 45 to 50: mendings of fewest parts, letter tables, makers, the mended and the least net, worth."""
 
+import copy
 import itertools
 import unittest
 
-from tests.helpers import (NOT_NODES, Draws, FoldCase, all_kinds_cases, drawn_net, searched_fewest)
-from tests.test_lacking import table_by_rule
+from tests.helpers import NOT_NODES, Draws, FoldCase, all_kinds_cases, drawn_net, searched_fewest, table_by_rule
+from unseenfolds.covers import cover_distances, cover_distances_back, cover_points
 from unseenfolds.errors import BadKind, BadLoss, EmptyWord, Gone, NoNode, NotSimple, OtherWidth, TooMany
 from unseenfolds.folds import ceil_log2, chain, halves
 from unseenfolds.goals import lost_top
@@ -13,6 +14,7 @@ from unseenfolds.mending import Mending
 from unseenfolds.nets import Net
 from unseenfolds.spans import Remains
 from unseenfolds.unders import is_tree, merges_under
+from unseenfolds.ways import distances, distances_back
 
 
 def joined_word(net, row):
@@ -50,6 +52,22 @@ class FewestTest(FoldCase):
                 table = {node: (a, b) for node, a, b in mending.spans()}
                 spans = [table[node] for node in parts]
                 self.assertEqual(spans, sorted(spans))
+
+    def test_fewest_by_distances_and_by_places(self):
+        met = 0
+        for kind, net, goal, loss in all_kinds_cases(120, 57):
+            mending = Mending(net, kind, goal, loss=loss)
+            if not mending.spanned:
+                continue
+            spans, k = mending.spans(), len(mending.goal)
+            if kind in ("list", "bag"):
+                self.assertEqual([distances(spans, k)[k], distances_back(spans, k)[0]], [mending.fewest] * 2)
+                continue
+            self.assertEqual([cover_distances(spans, k)[k], cover_distances_back(spans, k)[0]], [mending.fewest] * 2)
+            points = cover_points(spans, k)
+            self.assertEqual(None if points is None else len(points), mending.fewest)
+            met += points is not None
+        self.assertGreater(met, 100)
 
     def test_the_base_class(self):
         for kind, net, goal, loss in all_kinds_cases(40, 59):
@@ -127,6 +145,14 @@ class LetterSetsTest(FoldCase):
         mending = Mending(net, "set", (3, 0, 1, 2), loss=[0, 1, 2, 3])
         told = {(): 0, (0, 2): 1, (1, 2): 1, (0, 3): 1, (0, 1, 2): 2, (0, 2, 3): 2, (0, 1, 2, 3): 2}
         self.assertEqual(mending.letter_sets(), told)
+
+    def test_letters_in_another_order(self):
+        net = Net(20, [(17, 1), (8, 17), (8, 16)])
+        for kind in ("set", "bag"):
+            told = Mending(net, kind, (8, 1, 17, 16), loss=list(range(20))).letter_sets()
+            for letters in told:
+                self.assertEqual(list(letters), sorted(letters))
+            self.assertEqual([told[(1, 17)], told[(8, 17)], told[(8, 16)], told[(1, 8, 16, 17)]], [1, 1, 1, 2])
 
     def test_8_and_9_letters(self):
         net = Net(9, [(0, 2), (0, 1)])
@@ -251,6 +277,20 @@ class WorthTest(FoldCase):
             # Of no use for the goal, node 8 leaves it spanned.
             self.assertIsNone(Mending(net, kind, range(8), loss=[4, 8, 9]).worth(8))
 
+    def test_spans_that_overlap_do_not_lead_on(self):
+        net = Net(4, [(0, 1), (1, 2)])
+        told = [Mending(net, kind, (0, 1, 2, 3), loss=[0, 1, 2, 5]).worth(5) for kind in KIND_NAMES]
+        self.assertEqual(told, [None, None, 3, 1, 1, 2, 3, 3])
+
+    def test_further_losses_do_not_come_into_it(self):
+        net, loss = Net(3, [(0, 1), (1, 2)]), [0, 2, 3]
+        for kind in KIND_NAMES:
+            mending = Mending(net, kind, (0, 1, 2), loss=loss)
+            told = [mending.worth(node) for node in range(5)]
+            loss.clear()
+            self.assertEqual([mending.worth(node) for node in range(5)], told)
+            loss.extend([0, 2, 3])
+
     def test_what_is_no_node(self):
         for kind in KIND_NAMES:
             mending = Mending(Net(2, [(0, 1)]), kind, (0, 1), loss=[0, 1])
@@ -262,7 +302,7 @@ class ObjectTest(FoldCase):
     def test_the_same_answers_behind_other_calls(self):
         for kind, net, goal, loss in all_kinds_cases(40, 109):
             mending = Mending(net, kind, goal, loss=loss)
-            told = answers(mending)
+            told = copy.deepcopy(answers(mending))
             for row in (mending.standing(), mending.useful(), mending.fronts(), mending.backs(), mending.spans(),
                         mending.whole_nodes(), mending.letter_sets() or {}):
                 row.clear()
@@ -276,7 +316,7 @@ class ObjectTest(FoldCase):
         net, goal, loss = Net(3, [(0, 1)]), [0, 1, 2], [0]
         for kind in KIND_NAMES:
             mending = Mending(net, kind, goal, loss=loss)
-            told = answers(mending) + [mending.worth(0), mending.mends([3, 2])]
+            told = copy.deepcopy(answers(mending) + [mending.worth(0), mending.mends([3, 2])])
             goal.append(0)
             loss.append(3)
             self.assertEqual(answers(mending) + [mending.worth(0), mending.mends([3, 2])], told)

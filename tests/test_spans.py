@@ -1,5 +1,6 @@
 """Points 42 to 45: spans, useful nodes, fronts and backs, and when a row is a mending."""
 
+import copy
 import itertools
 import unittest
 
@@ -187,7 +188,7 @@ class RemainsTest(FoldCase):
                 return [remains.goal, remains.standing(), remains.useful(), remains.fronts(), remains.backs(),
                         remains.whole_nodes(), remains.spans()]
 
-            told = answers()
+            told = copy.deepcopy(answers())
             for row in answers()[1:]:
                 row.append(77)
             goal.append(2)

@@ -1,9 +1,10 @@
 """Points 51 to 54, 57 and 58, and what 50, 55 and 59 tell of strengths: the strength and what shows it."""
 
+import copy
 import itertools
 import unittest
 
-from tests.helpers import NOT_NODES, FoldCase, all_kinds_cases, searched_strength, subsets
+from tests.helpers import NOT_NODES, Draws, FoldCase, all_kinds_cases, searched_strength, subsets
 from unseenfolds.blows import is_blow
 from unseenfolds.errors import BadBlow, BadKind, BadLoss, EmptyWord, NotRuns, NotSimple
 from unseenfolds.folds import chain, floor_log2, halves
@@ -144,6 +145,18 @@ class CallTest(FoldCase):
             self.assertEqual(strength([]), strength.strength)
             self.assertEqual(strength(strength.blow()), 0)
 
+    def test_lists_handed_in(self):
+        net, goal, loss = Net(3, [(0, 1), (1, 2)]), [0, 1, 2], [0]
+        for kind in KIND_NAMES:
+            strength = Strength(net, kind, goal, loss=loss)
+            told = [strength([]), strength([1]), strength([2, 3])]
+            goal.reverse()
+            loss.clear()
+            self.assertEqual([strength([]), strength([1]), strength([2, 3])], told)
+            self.assert_raises_like(BadBlow(0), strength, [0])
+            goal.reverse()
+            loss.append(0)
+
     def test_bad_blows(self):
         net = Net(3, [(0, 1), (1, 2)])
         for kind in KIND_NAMES:
@@ -176,7 +189,48 @@ class CallTest(FoldCase):
                     self.assertGreaterEqual(told[kind], told[other])
 
 
+def ways_up_from_items(net):
+    """The ways of all items of a tree, as point 55 says it."""
+    above = {part: node for node, *parts in net.steps() for part in parts}
+    ways = []
+    for item in range(net.width):
+        way = [item]
+        while way[-1] in above:
+            way.append(above[way[-1]])
+        ways.append(way)
+    return ways
+
+
 class PlainNetTest(FoldCase):
+    def test_trees(self):
+        draws = Draws(199)
+        for _ in range(60):
+            width = 1 + draws.below(9)
+            pairs, tops = [], list(range(width))
+            while len(tops) > 1:
+                pairs.append((tops.pop(draws.below(len(tops))), tops.pop(draws.below(len(tops)))))
+                tops.append(width + len(pairs) - 1)
+            net = Net(width, pairs)
+            ways = ways_up_from_items(net)
+            least = min(map(len, ways))
+            self.assertLessEqual(least, floor_log2(width) + 1)
+            for kind in FULL_KINDS:
+                goal = net.word(net.size - 1)
+                strength = Strength(net, kind, goal)
+                self.assertEqual(strength.strength, least)
+                for way in ways:
+                    self.assertIs(is_blow(net, kind, goal, way), True)
+                    if len(way) == least:
+                        self.assertTrue(set(way) <= set(strength.vital()))
+
+    def test_nets_of_all_beginnings(self):
+        for pairs in ([(0, 1), (2, 3), (4, 2), (4, 5)], [(0, 1), (1, 2), (0, 5), (6, 3)], [(0, 1), (4, 2), (5, 3)]):
+            net = Net(4, pairs)
+            for kind in FULL_KINDS:
+                for i in range(1, 4):
+                    self.assertTrue(any(alike(kind, word, range(i + 1)) for word in net.words()))
+                    self.assertGreaterEqual(strength_of(net, kind, range(i + 1)), 2)
+
     def test_words_of_different_letters(self):
         for many in range(1, 34):
             for kind in FULL_KINDS:
@@ -224,7 +278,7 @@ class ObjectTest(FoldCase):
         for kind, net, goal, loss in strength_cases(40, 193):
             goal, loss = list(goal), list(loss)
             strength = Strength(net, kind, goal, loss=loss)
-            told = answers(strength)
+            told = copy.deepcopy(answers(strength))
             for row in (strength.blow(), strength.places(), strength.mendings(), strength.vital(), strength.standing(),
                         strength.useful(), strength.fronts(), strength.backs(), strength.spans(), goal, loss):
                 if row is not None:

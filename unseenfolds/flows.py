@@ -107,10 +107,10 @@ def disjoint_covers(spans, end):
             if ends[number] == place:
                 # Each cover that goes on here has at most one span over the place, so enough are left. The farthest
                 # is taken, so that no later span of a cover begins before it.
-                stop, entry = max([(entry[2], entry) for entry in over_place(left, place)])
-                covers[number].append(entry[0])
+                stop, node, begin = max([(entry[2], entry[0], entry[1]) for entry in over_place(left, place)])
+                covers[number].append(node)
                 ends[number] = stop
-                left.remove(entry)
+                left.remove((node, begin, stop))
     return [tuple(cover) for cover in covers]
 
 

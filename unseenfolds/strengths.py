@@ -13,8 +13,8 @@ class Strength(Remains):
         super().__init__(net, kind, goal, loss=loss)
         check_runs(self)
         self._flow = Flow(self.spans(), len(self.goal)) if kind in ("list", "bag") else None
-        self._sides = [] if kind in ("list", "bag") else told_sides(self)
-        self._blow = self._flow.cut() if self._flow is not None else min(self._sides)[2]
+        self._sides = told_sides(self) if self._flow is None else []
+        self._blow = min(self._sides)[2] if self._flow is None else self._flow.cut()
 
     @property
     def strength(self):
