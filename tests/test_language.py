@@ -87,7 +87,89 @@ def own_names(tree):
     return names
 
 
+MODIFYING = {"append", "clear", "extend", "insert", "pop", "remove", "reverse", "setdefault", "update", "sort"}
+
+
+def choices(node):
+    """Returns the texts of the names, attributes and entries that an expression may be."""
+    if isinstance(node, ast.IfExp):
+        return choices(node.body) | choices(node.orelse)
+    if isinstance(node, ast.BoolOp):
+        return set().union(*[choices(entry) for entry in node.values])
+    return {ast.unparse(node)} if isinstance(node, (ast.Name, ast.Attribute, ast.Subscript)) else set()
+
+
+def walked(node):
+    """Returns the texts of what a loop over this expression walks itself, and not a copy of."""
+    if isinstance(node, ast.Call) and isinstance(node.func, ast.Name):
+        if node.func.id in ("enumerate", "zip", "reversed", "map"):
+            return set().union(*[walked(entry) for entry in node.args])
+        return set()
+    if isinstance(node, ast.Call) and node.func.attr in ("items", "keys", "values"):
+        return walked(node.func.value)
+    return choices(node)
+
+
+def other_names(function):
+    """Returns a dict from each text that a function assigns, or assigns from, to all texts for the same thing."""
+    groups = {}
+    for node in ast.walk(function):
+        if isinstance(node, ast.Assign):
+            texts = choices(node.value)
+            if not texts:
+                continue
+            for target in node.targets:
+                texts |= choices(target)
+            for text in list(texts):
+                texts |= groups.get(text, set())
+            for text in texts:
+                groups[text] = texts
+    return groups
+
+
+def modified(loop):
+    """Returns the texts of what the rows of a loop modify."""
+    texts = set()
+    for node in [node for row in loop.body for node in ast.walk(row)]:
+        if isinstance(node, ast.Call) and isinstance(node.func, ast.Attribute) and node.func.attr in MODIFYING:
+            texts |= choices(node.func.value)
+        if isinstance(node, ast.Subscript) and not isinstance(node.ctx, ast.Load):
+            texts |= choices(node.value)
+        if isinstance(node, ast.AugAssign):
+            texts |= choices(node.target)
+    return texts
+
+
+def changed_walks(tree):
+    """Returns the rows of the loops that modify what they walk, by whatever name."""
+    rows = []
+    for function in [node for node in ast.walk(tree) if isinstance(node, ast.FunctionDef)]:
+        groups = other_names(function)
+        for loop in [node for node in ast.walk(function) if isinstance(node, ast.For)]:
+            texts = walked(loop.iter)
+            for text in list(texts):
+                texts |= groups.get(text, set())
+            if texts & modified(loop):
+                rows.append(loop.lineno)
+    return rows
+
+
 class LanguageTest(unittest.TestCase):
+    def test_no_loop_modifies_what_it_walks(self):
+        for path in FILES:
+            self.assertEqual(changed_walks(parsed(path)), [], path)
+
+    def test_such_loops_are_found(self):
+        head = "def f(rows, box, k):\n    later = rows\n    for row in "
+        for told, row in (
+            ("rows", "rows.append(1)"), ("rows", "later.append(1)"), ("later", "rows[0] = 1"),
+            ("box.rows", "del box.rows[0]"), ("enumerate(rows)", "rows.pop()"), ("rows.items()", "later.update(box)"),
+            ("rows if k else box", "box.clear()"), ("zip(box, rows[k])", "rows[k].append(1)"), ("box", "box += [1]"),
+        ):
+            self.assertEqual(changed_walks(ast.parse(f"{head}{told}:\n        {row}\n")), [3], told)
+        for told, row in (("list(rows)", "rows.append(1)"), ("sorted(later)", "rows.pop()"), ("rows", "box.append(1)")):
+            self.assertEqual(changed_walks(ast.parse(f"{head}{told}:\n        {row}\n")), [], told)
+
     def test_there_are_files_and_nothing_else(self):
         names = {path.name for path in PACKAGE.iterdir() if path.name != "__pycache__"}
         self.assertEqual(names, {path.name for path in FILES})

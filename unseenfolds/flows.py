@@ -63,15 +63,15 @@ def full_rooms(spans, end):
 def reached_rooms(room, start):
     """Returns a dict of the places that a way with room reaches from a place, each with the place before it."""
     before = {start: None}
-    fresh = [start]
-    while fresh:
-        later = []
-        for one in fresh:
-            for other, many in enumerate(room[one]):
-                if many > 0 and other not in before:
-                    before[other] = one
-                    later.append(other)
-        fresh = later
+    queue = [start]
+    at = 0
+    while at < len(queue):
+        one = queue[at]
+        at += 1
+        for other, many in enumerate(room[one]):
+            if many > 0 and other not in before:
+                before[other] = one
+                queue.append(other)
     return before
 
 

@@ -92,16 +92,17 @@ def letter_rows(remains):
     # Of nodes with the same letters one is enough.
     nodes = {tuple(sorted(row)): node for node, row in letters[::-1]}
     made = {(): ()}
-    fresh = [()]
-    while fresh:
-        later = []
-        for old in fresh:
-            for more in nodes:
-                new = joined_letters(remains.kind, old, more)
-                if new is not None and new not in made:
-                    made[new] = made[old] + (nodes[more],)
-                    later.append(new)
-        fresh = later
+    queue = [()]
+    at = 0
+    # In the order in which they are made, so that each tuple is made of as few nodes as possible.
+    while at < len(queue):
+        old = queue[at]
+        at += 1
+        for more in nodes:
+            new = joined_letters(remains.kind, old, more)
+            if new is not None and new not in made:
+                made[new] = made[old] + (nodes[more],)
+                queue.append(new)
     return made
 
 
