@@ -59,6 +59,39 @@ FUNCTIONS = {
     "blows": ["is_blow(net, kind, goal, nodes, *, loss=())"],
     "flows": ["disjoint_covers(spans, end)"],
     "strengths": ["strength_of(net, kind, goal, *, loss=())"],
+    "topways": ["ways_up(net)", "top_way(net)", "copied_net(net, count)"],
+    "plans": ["plan_base(plan)", "plan_told(plan)", "class_length(plan, length)"],
+    "costs": ["results_net(plan, length)"] + [f"{name}(plan, length, *, chained=False, top_chained=False)"
+                                              for name in ("plan_net", "costs")],
+    "losses": [
+        "unnoticed(kind, plan, number, length)", "unnoticed_again(kind, plan, number, length)",
+        "noticed(kind, plan, number)", "noticed_again(kind, plan, number)",
+    ],
+    "tolerances": ["tolerance(kind, plan, length)", "losing(kind, plan, length)", "least_tolerance(kind, plan)"],
+    "arrivals": [
+        "parting_runs(kind, plan, length)", "any_order(kind, plan, length)", "order_matters(kind, plan)",
+        "any_order_lost(kind, plan, length, lacks)", "any_order_again(kind, plan, length)",
+    ],
+    "spreads": ["spread_plan(kind, k, lacks)", "least_letters(kind, word, lacks)"],
+    "scans": [
+        "prefix_nodes(kind, net)", "is_scan(kind, net)", "scan_nodes(kind, net)", "slack(kind, net)",
+        "outer_scan(width)",
+    ],
+    "tight": [
+        "fits(levels, turns)", "widest(levels)", "tight_scan(width, levels)", "tight_at(kind, net)", "spine(net)",
+        "arms(net)",
+    ],
+    "rounds": [
+        "least_rounds(width, workers)", "scan_rounds(width, workers)", "timetable(net, workers)",
+        "round_count(net, workers, rounds)",
+    ],
+    "windows": [
+        "windows_of(kind, net, wide)", "is_window_net(kind, net, wide)", "window_heights(kind, net, wide)",
+        "least_windows(width, wide)", "window_net(width, wide)", "least_low_windows(kind, width)",
+        "low_window_net(kind, width)",
+    ],
+    "trials": ["take(desk, deed)", "play(desk, deeds)", "tried(desk, deeds)", "ready_without(desk, nodes)"],
+    "listings": ["desk_listing(desk)"],
 }
 
 PLAIN = ["plain(self, word)"]
@@ -100,17 +133,29 @@ METHODS = {
         MADE_OF_REMAINS, "blow(self)", "places(self)", "weakest(self)", "mendings(self)", "__call__(self, nodes)",
         "vital(self)",
     ],
+    "plans.Plan": [
+        "__init__(self, pieces)", "pieces(self)", "__iter__(self)", "__add__(self, other)", "__rrshift__(self, other)",
+        "joined(self)", "word_of(self, number, length)", "words_at(self, length)", "word_at(self, length)",
+        "full_run(self)", "run_word(self, run, length)",
+    ],
+    "desks.Desk": [
+        "__init__(self, kind, plan, length)", "arrive(self, number)", "bring(self, index)", "lose(self, node)",
+        "settle(self)", "close(self)", "standing(self)", "lost(self)", "__iter__(self)", "outcome_of(self, number)",
+        "ready(self)", "answer(self)", "wants(self)", "bears(self)",
+    ],
+    "trials.Trial": ["__init__(self, desk)", "__enter__(self)", "__exit__(self, kind, value, trace)"],
 }
 
 PROPERTIES = {
     "tables.Table": ["order"], "feeds.Feed": ["parts", "text", "leaves"], "lines.Numbers": ["settled"],
     "nets.Net": ["size", "merge_count", "tallest"], "spans.Remains": ["goal", "spanned"],
-    "mending.Mending": ["fewest"], "strengths.Strength": ["strength"],
+    "mending.Mending": ["fewest"], "strengths.Strength": ["strength"], "plans.Plan": ["many", "text"],
+    "desks.Desk": ["goal", "net", "many", "made", "closed"],
 }
 
 BASES = {"mending.Mending": "spans.Remains", "strengths.Strength": "spans.Remains"}
 
-GENERATORS = ["feeds.Feed.stages", "nets.Net.steps", "verdicts.differing"]
+GENERATORS = ["feeds.Feed.stages", "nets.Net.steps", "verdicts.differing", "trials.play"]
 
 
 def module_named(name):
@@ -149,9 +194,11 @@ class InterfaceTest(unittest.TestCase):
             self.assertEqual(class_named(path).__bases__, (class_named(base),))
 
     def test_class_and_static_methods(self):
+        for path in ("feeds.Feed", "plans.Plan"):
+            made = class_named(path)
+            self.assertIsInstance(vars(made)["read"], classmethod)
+            self.assertEqual(str(inspect.signature(made.read)), "(text)")
         made = class_named("feeds.Feed")
-        self.assertIsInstance(vars(made)["read"], classmethod)
-        self.assertEqual(str(inspect.signature(made.read)), "(text)")
         self.assertIsInstance(vars(made)["same"], staticmethod)
         self.assertEqual(str(inspect.signature(made.same)), "()")
 

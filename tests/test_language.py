@@ -73,7 +73,7 @@ def parsed(path):
 
 
 def own_names(tree):
-    """Returns the names that a file binds: imports, functions, classes, parameters and variables."""
+    """Returns the names that a file binds: imports, functions, classes, parameters, variables and caught errors."""
     names = set()
     for node in ast.walk(tree):
         if isinstance(node, ast.alias):
@@ -84,6 +84,8 @@ def own_names(tree):
             names.add(node.arg)
         elif isinstance(node, ast.Name) and isinstance(node.ctx, ast.Store):
             names.add(node.id)
+        elif isinstance(node, ast.ExceptHandler) and node.name is not None:
+            names.add(node.name)
     return names
 
 

@@ -88,6 +88,10 @@ class Net:
             for node, length in enumerate(self.lengths()):
                 if length > Net.LONGEST:
                     raise TooLong(node)
+        return self.all_values(rules)
+
+    def all_values(self, rules):
+        """Returns the list of the plain values of all nodes under a Kind, however long their words are."""
         values = [rules.plain((item,)) for item in range(self.width)]
         for one, other in self._pairs:
             values.append(rules.merged(values[one], values[other]))
