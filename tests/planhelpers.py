@@ -3,8 +3,9 @@
 import itertools
 
 from tests.helpers import Draws
+from unseenfolds.errors import TooLarge
 from unseenfolds.kinds import plain_value
-from unseenfolds.plans import Plan
+from unseenfolds.plans import Plan, plan_told
 
 PLAN_TEXTS = (
     "same",
@@ -60,6 +61,18 @@ def drawn_plans(many, seed, *, most=4):
 def all_plans():
     """Returns the small plans and some drawn ones."""
     return small_plans() + drawn_plans(40, 211)
+
+
+def told_plans():
+    """Returns the small plans whose told length is at most 400, each with this length."""
+    rows = []
+    for plan in small_plans():
+        try:
+            rows.append((plan, plan_told(plan)))
+        except TooLarge:
+            pass
+    assert len(rows) > 15
+    return rows
 
 
 def run_value(kind, words, run):

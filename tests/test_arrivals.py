@@ -5,12 +5,12 @@ import unittest
 
 from tests.helpers import BIG, TOLD_400, TOLD_401, FoldCase
 from tests.planhelpers import (all_alike, all_plans, drawn_plans, run_value, runs_in_any_order, runs_with_repeats,
-                               small_plans)
+                               small_plans, told_plans)
 from unseenfolds.arrivals import any_order, any_order_again, any_order_lost, order_matters, parting_runs
 from unseenfolds.errors import BadKind, BadLength, BadLosses, TooLarge
 from unseenfolds.kinds import KIND_NAMES, plain_value, under
 from unseenfolds.losses import noticed
-from unseenfolds.plans import Plan, class_length, plan_told
+from unseenfolds.plans import Plan, class_length
 from unseenfolds.tolerances import tolerance
 
 
@@ -148,24 +148,14 @@ class AgainTest(FoldCase):
 
 
 class ForEverTest(FoldCase):
-    def told_plans(self):
-        rows = []
-        for plan in small_plans():
-            try:
-                rows.append((plan, plan_told(plan)))
-            except TooLarge:
-                pass
-        self.assertGreater(len(rows), 15)
-        return rows
-
     def test_the_least_length(self):
-        for plan, told in self.told_plans():
+        for plan, told in told_plans():
             for kind in KIND_NAMES:
                 lengths = [length for length in range(told) if not any_order(kind, plan, length)]
                 self.assertEqual(order_matters(kind, plan), lengths[0] if lengths else None)
 
     def test_lengths_of_one_class(self):
-        for plan, told in self.told_plans():
+        for plan, told in told_plans():
             for length in (told, told + 1, told + 6, 2 * told + 5):
                 if length > 250:
                     continue

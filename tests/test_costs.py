@@ -56,11 +56,11 @@ class NetTest(FoldCase):
                 self.assertEqual(net.word(outcome), plan.word_at(length))
 
     def test_by_halves_unless_told_otherwise(self):
-        plan = Plan.read("same\nsame\nsame")
+        plan = Plan.read("same\nsame\nsame\nsame")
         told = plan_net(plan, 5, chained=False, top_chained=False)[0].pairs()
         self.assertEqual(plan_net(plan, 5)[0].pairs(), told)
         net, outcome = plan_net(plan, 5)
-        self.assertEqual([net.merge_count, net.height(outcome), costs(plan, 5)], [14, 5, (14, 5)])
+        self.assertEqual([net.merge_count, net.height(outcome), costs(plan, 5)], [19, 5, (19, 5)])
 
     def test_one_item(self):
         plan = Plan.read("same\nfront 0\nlast 1")

@@ -4,6 +4,11 @@ import importlib
 import inspect
 import unittest
 
+from tests.helpers import FoldCase
+from unseenfolds.errors import BadKind
+from unseenfolds.nets import Net
+from unseenfolds.plans import Plan
+
 FUNCTIONS = {
     "kinds": [
         "kind_named(name)", "plain_value(kind, word)", "merged_value(kind, left, right)", "alike(kind, left, right)",
@@ -209,6 +214,59 @@ class InterfaceTest(unittest.TestCase):
             for name in names:
                 thing = getattr(thing, name)
             self.assertTrue(inspect.isgeneratorfunction(thing), path)
+
+
+class AnyName:
+    """A thing that is equal to each name, and still is none."""
+
+    def __eq__(self, other):
+        return True
+
+    def __hash__(self):
+        return 0
+
+
+class BadKindTest(FoldCase):
+    """BadKind comes before any other check, whatever else is handed in."""
+
+    NOT_KINDS = ("", "List", "lists", "bag ", None, 0, True, ["list"], ("bag",), {"set": 1}, b"list", AnyName())
+
+    def check(self, call, names, generator=False):
+        for thing in self.NOT_KINDS:
+            wrong = {"net": Net(1), "plan": Plan.read("same"), "kind": thing, "other": "x"}
+            args = {name: wrong.get(name) for name in names}
+            try:
+                told = call(**args)
+                told = list(told) if generator else told
+            except BadKind as error:
+                self.assertIs(error.name, thing)
+            else:
+                self.fail(f"{call} {thing!r} {told!r}")
+
+    def test_functions(self):
+        checked = 0
+        for name, functions in FUNCTIONS.items():
+            for told in functions:
+                function = getattr(module_named(name), told.split("(")[0])
+                names = list(inspect.signature(function).parameters)
+                if "kind" in names:
+                    self.check(function, names, inspect.isgeneratorfunction(function))
+                    checked += 1
+        self.assertGreater(checked, 45)
+
+    def test_classes_and_methods(self):
+        for path in ("spans.Remains", "mending.Mending", "strengths.Strength", "desks.Desk"):
+            names = list(inspect.signature(class_named(path)).parameters)
+            self.check(class_named(path), names)
+        self.check(Net(1).plain_values, ["kind"])
+        self.check(Net(1).plain_of, ["kind", "node"])
+        self.check(class_named("tables.Table")([[0]]).fault, ["kind"])
+
+    def test_the_first_of_two_kinds(self):
+        for name in ("broken_rule", "under"):
+            function = getattr(module_named("kinds"), name)
+            self.assert_raises_like(BadKind("x"), function, "x", "y")
+            self.assert_raises_like(BadKind("y"), function, "set", "y")
 
 
 if __name__ == "__main__":

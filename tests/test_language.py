@@ -289,6 +289,61 @@ class LanguageTest(unittest.TestCase):
                 if isinstance(node, ast.arg):
                     self.assertIsNone(node.annotation, path)
 
+    def test_names_of_methods_properties_and_attributes_differ(self):
+        methods, properties, attributes = set(), set(), set()
+        for path in FILES:
+            for node in ast.walk(parsed(path)):
+                if isinstance(node, ast.ClassDef):
+                    for entry in node.body:
+                        if isinstance(entry, ast.FunctionDef):
+                            told = [ast.unparse(over) for over in entry.decorator_list]
+                            (properties if "property" in told else methods).add(entry.name)
+                if isinstance(node, ast.Attribute) and isinstance(node.ctx, ast.Store):
+                    attributes.add(node.attr)
+        self.assertEqual([methods & properties, methods & attributes, properties & attributes], [set()] * 3)
+        builtin_names = {name for made in (str, int, list, dict, set, bytes, tuple) for name in dir(made)}
+        self.assertEqual((methods | properties) & builtin_names - SPECIAL_METHODS, set())
+
+    def test_stars_stand_before_names(self):
+        for path in FILES:
+            for node in ast.walk(parsed(path)):
+                if isinstance(node, ast.Call):
+                    for entry in node.args:
+                        if isinstance(entry, ast.Starred):
+                            self.assertIsInstance(entry.value, ast.Name, f"{path} {node.lineno}")
+                    self.assertTrue(all(entry.arg is not None for entry in node.keywords), f"{path} {node.lineno}")
+
+    def test_generators(self):
+        names, functions, uses = set(), [], []
+        for path in FILES:
+            for node in ast.walk(parsed(path)):
+                if isinstance(node, ast.FunctionDef):
+                    functions.append(node.name)
+                    if any(isinstance(entry, (ast.Yield, ast.YieldFrom)) for entry in ast.walk(node)):
+                        names.add(node.name)
+        for path in FILES:
+            for node in ast.walk(parsed(path)):
+                for entry in ast.iter_child_nodes(node):
+                    called = entry.func if isinstance(entry, ast.Call) else None
+                    name = called.attr if isinstance(called, ast.Attribute) else getattr(called, "id", None)
+                    if name in names:
+                        uses.append(name)
+                        walks = isinstance(node, (ast.For, ast.comprehension)) and node.iter is entry
+                        wraps = isinstance(node, ast.Call) and ast.unparse(node.func) in ("list", "tuple", "enumerate")
+                        self.assertTrue(walks or wraps, f"{path} {entry.lineno}")
+        self.assertEqual([functions.count(name) for name in names], [1] * len(names))
+        self.assertEqual(names, {"stages", "steps", "differing", "play"})
+        self.assertTrue(uses)
+
+    def test_ends_of_with_blocks(self):
+        for path in FILES:
+            for node in ast.walk(parsed(path)):
+                if isinstance(node, ast.FunctionDef) and node.name == "__exit__":
+                    for row in node.body:
+                        self.assertIsInstance(row, ast.Assign, path)
+                        self.assertIsInstance(row.targets[0], ast.Attribute, path)
+                        self.assertIsInstance(row.value, (ast.Attribute, ast.Name), path)
+
     def test_each_name_is_bound_once_in_a_module(self):
         for path in FILES:
             names = []

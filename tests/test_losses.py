@@ -4,11 +4,11 @@ import itertools
 import unittest
 
 from tests.helpers import BIG, NOT_NODES, TOLD_400, TOLD_401, FoldCase
-from tests.planhelpers import all_plans, run_value, small_plans
+from tests.planhelpers import all_plans, run_value, told_plans
 from unseenfolds.errors import BadKind, BadLength, NoPiece, TooLarge
 from unseenfolds.kinds import KIND_NAMES, plain_value, under
 from unseenfolds.losses import noticed, noticed_again, unnoticed, unnoticed_again
-from unseenfolds.plans import Plan, class_length, plan_told
+from unseenfolds.plans import Plan, class_length
 
 
 def begins(one, other):
@@ -110,26 +110,16 @@ class AtALengthTest(FoldCase):
 
 class ForEverTest(FoldCase):
     def test_the_least_length(self):
-        for plan in small_plans():
-            if not is_told(plan):
-                for call, kind in itertools.product((noticed, noticed_again), KIND_NAMES):
-                    self.assert_raises_like(TooLarge("told"), call, kind, plan, 0)
-                continue
-            told = plan_told(plan)
+        for plan, told in told_plans():
             for number, kind in itertools.product(range(plan.many), KIND_NAMES):
                 for call, at in ((noticed, unnoticed), (noticed_again, unnoticed_again)):
-                    lengths = [length for length in range(min(told, 40)) if not at(kind, plan, number, length)]
-                    if lengths:
-                        self.assertEqual(call(kind, plan, number), lengths[0])
-                    else:
-                        later = [length for length in range(40, told) if not at(kind, plan, number, length)]
-                        self.assertEqual(call(kind, plan, number), later[0] if later else None)
+                    worth = call(kind, plan, number)
+                    lengths = range(told if worth is None else worth + 1)
+                    self.assertEqual([n for n in lengths if not at(kind, plan, number, n)],
+                                     [] if worth is None else [worth])
 
     def test_lengths_of_one_class(self):
-        for plan in small_plans():
-            if not is_told(plan):
-                continue
-            told = plan_told(plan)
+        for plan, told in told_plans():
             for length in (told, told + 1, told + 5, 2 * told + 3):
                 if length > 300:
                     continue
@@ -151,14 +141,6 @@ class ForEverTest(FoldCase):
             self.assert_raises_like(TooLarge("told"), call, kind, Plan.read(TOLD_401), 0)
         # What takes a length does not look at told.
         self.assertIs(unnoticed("set", Plan.read(f"{TOLD_401}\nsame"), 0, 99), True)
-
-
-def is_told(plan):
-    try:
-        plan_told(plan)
-    except TooLarge:
-        return False
-    return True
 
 
 class ErrorTest(FoldCase):

@@ -53,8 +53,8 @@ class MakingTest(FoldCase):
     def test_lines_that_cannot_be_read(self):
         for text, place, token in (
             ("", 0, 0), ("\n", 0, 0), ("same\n", 1, 0), ("\nsame", 0, 0), ("same\n\nsame", 1, 0), ("same\n ", 1, 0),
-            ("same;same\nturn;\nfront", 1, 2), ("front 100", 0, 1), ("same\nsame\neach 3 3\nx", 2, 2), ("same same", 0, 1),
-            ("same\nboth (same) same", 1, 4),
+            ("same;same\nturn;\nfront", 1, 2), ("front 100", 0, 1), ("same\nsame\neach 3 3\nx", 2, 2),
+            ("same same", 0, 1), ("same\nboth (same) same", 1, 4),
         ):
             self.assert_raises_like(BadPlan(place), Plan.read, text)
             try:

@@ -42,7 +42,8 @@ class PrefixTest(FoldCase):
 
     def test_one_item(self):
         for kind in KIND_NAMES:
-            self.assertEqual([prefix_nodes(kind, Net(1)), scan_nodes(kind, Net(1)), slack(kind, Net(1))], [[0], (0,), 0])
+            told = [prefix_nodes(kind, Net(1)), scan_nodes(kind, Net(1)), slack(kind, Net(1))]
+            self.assertEqual(told, [[0], (0,), 0])
             self.assertIs(is_scan(kind, Net(1)), True)
             idle = Net(1, [(0, 0)])
             self.assertEqual(slack(kind, idle), 1)

@@ -4,22 +4,11 @@ import itertools
 import unittest
 
 from tests.helpers import BIG, TOLD_400, TOLD_401, Draws, FoldCase
-from tests.planhelpers import all_plans, drawn_plans, run_value, searched_tolerance, small_plans
+from tests.planhelpers import all_plans, drawn_plans, run_value, searched_tolerance, told_plans
 from unseenfolds.errors import BadKind, BadLength, TooLarge
 from unseenfolds.kinds import KIND_NAMES, under
-from unseenfolds.plans import Plan, class_length, plan_told
+from unseenfolds.plans import Plan, class_length
 from unseenfolds.tolerances import least_tolerance, losing, tolerance
-
-
-def told_plans():
-    """Small plans whose told length is not above 400, and that length."""
-    rows = []
-    for plan in small_plans():
-        try:
-            rows.append((plan, plan_told(plan)))
-        except TooLarge:
-            pass
-    return rows
 
 
 def is_noticed(kind, words, lost):

@@ -136,7 +136,8 @@ class TakeTest(FoldCase):
             if closed:
                 desk.close()
             before = answers(desk)
-            for word in NOT_NODES + ("", "arrives", "Arrive", "ready", "wants", "tried", "arrive bring", 3, None, ["close"]):
+            others = ("", "arrives", "Arrive", "ready", "wants", "tried", "arrive bring", 3, ["close"], ("trial",))
+            for word in NOT_NODES + others:
                 self.assert_raises_like(BadDeed(word), take, desk, (word,))
                 self.assert_raises_like(BadDeed(word), take, desk, (word, 0))
                 self.assert_raises_like(BadDeed(word), tried, desk, [(word, [])])
@@ -145,7 +146,8 @@ class TakeTest(FoldCase):
     def test_trials(self):
         desk = new_desk()
         before = answers(desk)
-        deed = ("trial", [("arrive", 1), ("trial", [("settle",), ("lose", 10), ("close",)]), ("settle",), ("trial", [])])
+        inner = ("trial", [("settle",), ("lose", 10), ("close",)])
+        deed = ("trial", [("arrive", 1), inner, ("settle",), ("trial", [])])
         self.assertEqual(take(desk, deed), [True, [2, None, None], 2, []])
         self.assertEqual(answers(desk), before)
         desk.close()
